@@ -1,0 +1,1 @@
+"""A store of columns: sidecolumns.store.answers is the way in."""
