@@ -3,14 +3,14 @@
 A set is a list with 1 for each row that is in it, else 0.
 """
 
-from sidecolumns.common import OutOfRange
+from sidecolumns.common import check_length
 from sidecolumns.common import check_same_width
 from sidecolumns.common import check_width
 from sidecolumns.common import column_at
 from sidecolumns.common import full_column
 from sidecolumns.common import number_at
 from sidecolumns.common import set_at
-from sidecolumns.common import signed
+from sidecolumns.common import with_signs
 
 
 def is_same(x, y):
@@ -51,10 +51,6 @@ def has_all_bits(x, mask):
 
 STANDINGS = (is_same, is_other, is_less, is_less_or_same, is_greater, is_greater_or_same)
 BIT_STANDINGS = (shares_a_bit, shares_no_bit, has_all_bits)
-
-
-def with_signs(numbers, width):
-    return [signed(x, width) for x in numbers]
 
 
 def rows_where(stands, xs, ys):
@@ -134,11 +130,10 @@ def answer_count(store, call):
 
 def answer_find(store, call):
     c = column_at(call, 0)
-    length = len(call.given)
-    if length < 1 or length > 16:
-        raise OutOfRange()
+    check_length(call, 1, 16)
     column = full_column(store, c)
     check_width(column, 8, 8)
+    length = len(call.given)
     for i in range(store.rows - length + 1):
         if column.numbers[i:i + length] == call.given:
             return [i]

@@ -13,6 +13,11 @@ class Unfit(Exception):
     pass
 
 
+# Answered as -4: more is found than there is room for.
+class TooMany(Exception):
+    pass
+
+
 # A column is never changed once it is made, so that a refusal or a column made of itself needs no copy.
 class Column:
     def __init__(self, width, numbers):
@@ -28,11 +33,13 @@ class Store:
         self.sets = []
 
 
-# numbers leaves out the call's own number and its store; end is where the next call begins.
+# numbers leaves out the call's own number and its store; stores are both, as a call may name another one too;
+# end is where the next call begins.
 class Call:
-    def __init__(self, numbers, given, end):
+    def __init__(self, numbers, given, stores, end):
         self.numbers = numbers
         self.given = given
+        self.stores = stores
         self.end = end
 
 
@@ -57,6 +64,12 @@ def width_at(call, k):
     return call.numbers[k]
 
 
+# How many numbers the list has stands for a number that the words hand in, so it has a range like one.
+def check_length(call, low, high):
+    if len(call.given) < low or len(call.given) > high:
+        raise OutOfRange()
+
+
 # Every range is to be looked at before this is called: -2 goes ahead of -3.
 def full_column(store, c):
     column = store.columns[c]
@@ -75,6 +88,11 @@ def check_width(column, narrowest, widest):
         raise Unfit()
 
 
+def check_below(column, limit):
+    if max(column.numbers, default=-1) >= limit:
+        raise Unfit()
+
+
 def signed(x, w):
     return x - (1 << w) if x >> (w - 1) else x
 
@@ -87,3 +105,21 @@ def hold(value, w):
 def hold_signed(value, w):
     half = 1 << (w - 1)
     return min(max(value, -half), half - 1) % (1 << w)
+
+
+def with_signs(numbers, width):
+    return [signed(x, width) for x in numbers]
+
+
+# The order asked for is the rising order of what this gives, whichever way and with or without a sign.
+def made_rising(column, downwards, has_sign):
+    numbers = with_signs(column.numbers, column.width) if has_sign else column.numbers
+    return [-x for x in numbers] if downwards else numbers
+
+
+def rows_in(chosen):
+    return [i for i, inside in enumerate(chosen) if inside]
+
+
+def numbers_in(numbers, chosen):
+    return [x for x, inside in zip(numbers, chosen) if inside]

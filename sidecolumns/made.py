@@ -1,4 +1,4 @@
-"""Columns made of one column or of three: one, funnel and width."""
+"""Columns made of columns by other ways than pair by pair: one, funnel, width, blend and slide."""
 
 from sidecolumns.common import Column
 from sidecolumns.common import check_same_width
@@ -8,6 +8,7 @@ from sidecolumns.common import full_column
 from sidecolumns.common import hold
 from sidecolumns.common import hold_signed
 from sidecolumns.common import number_at
+from sidecolumns.common import set_at
 from sidecolumns.common import signed
 from sidecolumns.common import width_at
 
@@ -127,9 +128,36 @@ def answer_width(store, call):
     return [0]
 
 
+def answer_blend(store, call):
+    d = column_at(call, 0)
+    c = column_at(call, 1)
+    e = column_at(call, 2)
+    a = set_at(call, 3)
+    column = full_column(store, c)
+    other = full_column(store, e)
+    check_same_width(column, other)
+    numbers = [y if inside else x for x, y, inside in zip(column.numbers, other.numbers, store.sets[a])]
+    store.columns[d] = Column(column.width, numbers)
+    return [0]
+
+
+def answer_slide(store, call):
+    d = column_at(call, 0)
+    c = column_at(call, 1)
+    e = column_at(call, 2)
+    k = number_at(call, 3, 0, store.rows)
+    column = full_column(store, c)
+    other = full_column(store, e)
+    check_same_width(column, other)
+    store.columns[d] = Column(column.width, column.numbers[k:] + other.numbers[:k])
+    return [0]
+
+
 # By a call's number: what answers it, how many numbers it has behind its store, whether a list stands last.
 MADE = {
     12: (answer_one, 3, False),
     14: (answer_funnel, 5, False),
     15: (answer_width, 4, False),
+    17: (answer_blend, 4, False),
+    18: (answer_slide, 4, False),
 }

@@ -4,9 +4,13 @@ from sidecolumns.chosen import CHOSEN
 from sidecolumns.common import Call
 from sidecolumns.common import OutOfRange
 from sidecolumns.common import Store
+from sidecolumns.common import TooMany
 from sidecolumns.common import Unfit
+from sidecolumns.grouped import GROUPED
 from sidecolumns.held import HELD
 from sidecolumns.made import MADE
+from sidecolumns.measured import MEASURED
+from sidecolumns.moved import MOVED
 from sidecolumns.paired import PAIRED
 
 
@@ -17,16 +21,22 @@ def form_of(number):
         return CHOSEN[number]
     if number in PAIRED:
         return PAIRED[number]
-    return MADE[number]
+    if number in MADE:
+        return MADE[number]
+    if number in MEASURED:
+        return MEASURED[number]
+    if number in MOVED:
+        return MOVED[number]
+    return GROUPED[number]
 
 
-def call_at(calls, at, form):
+def call_at(calls, at, form, stores):
     end = at + 2 + form[1]
     numbers = calls[at + 2:end]
     if not form[2]:
-        return Call(numbers, [], end)
+        return Call(numbers, [], stores, end)
     behind = end + 1 + calls[end]
-    return Call(numbers, calls[end + 1:behind], behind)
+    return Call(numbers, calls[end + 1:behind], stores, behind)
 
 
 def answer_of(answer, store, call):
@@ -36,6 +46,8 @@ def answer_of(answer, store, call):
         return [-2]
     except Unfit:
         return [-3]
+    except TooMany:
+        return [-4]
 
 
 def answers(calls):
@@ -44,7 +56,7 @@ def answers(calls):
     at = 0
     while at < len(calls):
         form = form_of(calls[at])
-        call = call_at(calls, at, form)
+        call = call_at(calls, at, form, stores)
         answered = answer_of(form[0], stores[calls[at + 1]], call)
         told.append(len(answered))
         told.extend(answered)

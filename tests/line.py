@@ -1,11 +1,17 @@
 """How the tests write calls, and read answers and whole stores."""
 
+import unittest
+
 from sidecolumns.store import answers
 
 NUMBERS = {
     "open": 0, "load": 1, "save": 2, "tell": 3,
     "where": 4, "match": 5, "bits": 6, "among": 7, "logic": 8, "count": 9, "find": 10,
     "mix": 11, "one": 12, "shift": 13, "funnel": 14, "width": 15, "neighbours": 16,
+    "blend": 17, "slide": 18,
+    "sum": 19, "least": 20, "apart": 21, "nearest": 22, "dot": 23,
+    "pick": 24, "place": 25, "lookup": 26, "gather": 27, "scatter": 28, "sort": 29, "code": 30,
+    "group": 31, "join": 32,
 }
 WIDTHS = (8, 16, 32, 64)
 FAR_OUT = (-2147483648, -1, 2147483647)
@@ -39,9 +45,17 @@ def column(o, c, width, numbers):
     return call("load", o, c, width, width, pack(numbers, width))
 
 
+def chosen(o, x, rows, n):
+    """Two calls that give set x just these rows; column 15 is used for it."""
+    return (call("load", o, 15, 8, 1, pack([int(i in rows) for i in range(n)], 1)),
+            call("where", o, x, 15, 0, 1))
+
+
 def run(*calls):
     """The answers, one list a call, without their lengths."""
-    told = answers([number for written in calls for number in written])
+    handed = [number for written in calls for number in written]
+    assert len(handed) <= 16000 and len(calls) <= 300, "more than a list may hold"
+    told = answers(handed)
     parted = []
     at = 0
     while at < len(told):
@@ -81,3 +95,21 @@ def whole_store(o, rows, *calls):
         asked.append(call("save", o, c, 64))
     columns = run(*calls, *asked)[len(calls):]
     return columns, [rows_of(o, x, rows, *calls) for x in range(8)]
+
+
+class Checks(unittest.TestCase):
+    """What is seen of the whole store 0 behind one more call, in stores of some rows."""
+
+    def check_asked(self, n, opened, asked, answer):
+        """The call answers so and changes nothing."""
+        self.assertEqual(last(*opened, asked), answer, asked)
+        self.assertEqual(whole_store(0, n, *opened, asked), whole_store(0, n, *opened), asked)
+
+    def check_made(self, n, opened, asked, answer, made):
+        """The call answers so and makes the column: made has its number, its width, its numbers."""
+        d, width, numbers = made
+        self.assertEqual(last(*opened, asked), answer, asked)
+        self.assertEqual(numbers_of(0, d, n, *opened, asked), numbers, asked)
+        columns, sets = whole_store(0, n, *opened)
+        columns[2 * d:2 * d + 2] = [[width], [8 * n] + pack(numbers, 64)]
+        self.assertEqual(whole_store(0, n, *opened, asked), (columns, sets), asked)

@@ -3,14 +3,7 @@
 import unittest
 
 from tests.line import WIDTHS, call, column, last, numbers_of, run, whole_store
-
-BYTE = (8,)
-SIXTEEN = (16,)
-MIX_WIDTHS = {
-    8: (8, 16), 9: (8, 16), 10: (8, 16), 11: (8, 16), 12: (8, 16),
-    13: SIXTEEN, 14: SIXTEEN, 15: SIXTEEN, 16: (8, 16, 32), 21: (64,), 22: (64,),
-}
-ONE_WIDTHS = {1: (32, 64), 3: BYTE}
+from tests.model import MIX_WIDTHS, ONE_WIDTHS, mixed, nearest, nearest_signed, sign
 
 
 def edges(width):
@@ -20,49 +13,6 @@ def edges(width):
     if width == 64:
         several += [2 ** 31 - 1, 2 ** 31, 2 ** 32 - 1, 2 ** 32, 2 ** 32 + 5, 2 ** 63 + 2 ** 31]
     return several
-
-
-def sign(x, width):
-    return int.from_bytes(x.to_bytes(width // 8, "little"), "little", signed=True)
-
-
-def nearest(value, low, high):
-    return low if value < low else high if value > high else value
-
-
-def nearest_signed(value, width):
-    return nearest(value, -(1 << (width - 1)), (1 << (width - 1)) - 1) & ((1 << width) - 1)
-
-
-def mixed(how, x, y, w):
-    """What the document asks of mix, in other words than the program's."""
-    top = (1 << w) - 1
-    s, t = sign(x, w), sign(y, w)
-    return {
-        0: lambda: x + y & top,
-        1: lambda: x + (top ^ y) + 1 & top,
-        2: lambda: x * y & top,
-        3: lambda: sorted([x, y])[1],
-        4: lambda: sorted([x, y])[0],
-        5: lambda: sorted([s, t])[1] & top,
-        6: lambda: sorted([s, t])[0] & top,
-        7: lambda: sorted([x, y])[1] - sorted([x, y])[0],
-        8: lambda: nearest(x + y, 0, top),
-        9: lambda: nearest(x - y, 0, top),
-        10: lambda: nearest_signed(s + t, w),
-        11: lambda: nearest_signed(s - t, w),
-        12: lambda: (x + y) // 2 + (x + y) % 2,
-        13: lambda: x * y // 2 ** 16,
-        14: lambda: s * t // 2 ** 16 & top,
-        15: lambda: (s * t + 16384) // 32768 & top,
-        16: lambda: x * ((t > 0) - (t < 0)) & top,
-        17: lambda: x & y,
-        18: lambda: x + y - (x & y),
-        19: lambda: x + y - 2 * (x & y),
-        20: lambda: x - (x & y),
-        21: lambda: (x & 0xffffffff) * (y & 0xffffffff),
-        22: lambda: sign(x & 0xffffffff, 32) * sign(y & 0xffffffff, 32) & top,
-    }[how]()
 
 
 class MadeColumns(unittest.TestCase):
